@@ -1,0 +1,1 @@
+"""Codecolumns: a store of columns, answered on their forms."""
