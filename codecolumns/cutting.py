@@ -4,8 +4,8 @@ from codecolumns.errors import BadPrices
 from codecolumns.forms import MOST, check_values, least_form
 from codecolumns.packing import per_cell
 
-# No two values are further apart.
-FURTHEST = 2 * MOST
+# No two values are further apart: twice the greatest one.
+FURTHEST = 19998
 
 
 def cut(values):

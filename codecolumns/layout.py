@@ -11,8 +11,8 @@ from codecolumns.disk import BLOCKS, MOST_WEIGHT, weight
 from codecolumns.heaps import Heap
 
 ROOT = 0
-# The number of the next block of a chain lies ahead of what a block holds.
-MOST_HELD = MOST_WEIGHT - 1
+# The number of the next block of a chain lies ahead of what a block holds, and weighs 1.
+NEXT_WEIGHT = 1
 
 
 def write_root(disk, kinds, next_row, next_name, heaps):
@@ -60,7 +60,7 @@ def bundled(columns):
     bundles = []
     bundle = []
     for piece in pieces_of(columns):
-        if weight(tuple(bundle)) + weight(piece) > MOST_HELD:
+        if NEXT_WEIGHT + weight(tuple(bundle)) + weight(piece) > MOST_WEIGHT:
             bundles.append(tuple(bundle))
             bundle = []
         bundle.append(piece)

@@ -109,10 +109,21 @@ class RunningTest(RefusalCase):
         self.assertEqual([disk.read(1), disk.read(2)], ["a", None])
         disk.settle()
         self.assertEqual(disk.blocks(), of_blocks([(1, "a")]))
-        # What was let go isn't picked later either.
-        disk.write(3, "d")
+
+    def test_what_was_let_go_is_not_picked_later(self):
+        disk = Disk()
+        disk.write(1, "a")
+        disk.write(2, "b")
+        disk.again()
+        disk.write(3, "c")
+        disk.write(4, "d")
+        disk.stop([False, True])
+        self.assertEqual(disk.blocks(), of_blocks([(4, "d")]))
+        disk.again()
+        disk.write(5, "e")
         disk.stop([True] * 5)
-        self.assertEqual(disk.blocks(), of_blocks([(1, "a"), (3, "d")]))
+        disk.again()
+        self.assertEqual(disk.blocks(), of_blocks([(4, "d"), (5, "e")]))
 
     def test_again_of_a_running_disk_leaves_nothing_armed(self):
         disk = Disk()

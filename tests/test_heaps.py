@@ -200,6 +200,17 @@ class TidyTest(RefusalCase):
         self.assertEqual(store.tidy(), [])
         self.assertEqual([heap[1] for heap in store.told_heaps()], [0])
 
+    def test_as_many_less_with_rows_and_without(self):
+        # Two heaps of alike ones, 16 cells less together, and two of 8 cells of which all rows have gone.
+        some = [numbers(7, 7, 1, 7, 7, 7, 7), numbers(7, 7, 7, 7, 7, 1, 7, 7, 7, 7, 1)]
+        none = [numbers(1, 1), numbers(1, 1)]
+        for heaps in (some + none, none + some):
+            store, plain = new_store(("number",), heaps), Plain(("number",))
+            put_all(plain, heaps)
+            self.assertEqual(store.drop(("is", 0, 1)), plain.drop(("is", 0, 1)))
+            self.assertEqual([plain.less_together(0, 1), plain.less_together(2, 3)], [16, 16])
+            self.assertEqual(store.tidy()[0][:2], (0, 1))
+
     def test_at_most_thirty_two_rows_that_are_there(self):
         store = new_store(("number",), [numbers(*[7] * 17), numbers(*[7] * 16)])
         self.assertEqual(store.tidy(), [])

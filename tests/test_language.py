@@ -105,6 +105,29 @@ class LanguageTest(unittest.TestCase):
                 self.assertRegex(name, r"^(_|_?[A-Za-z][A-Za-z0-9_]*|__[a-z]+__)$", where)
                 self.assertNotIn(name, BARRED, where)
 
+    def test_local_names_are_those_of_nothing_else(self):
+        for path in self.files:
+            tree = ast.parse(path.read_text())
+            taken = {node.name for node in tree.body if isinstance(node, (ast.FunctionDef, ast.ClassDef))}
+            for node in tree.body:
+                if isinstance(node, ast.ImportFrom):
+                    taken |= {name.name for name in node.names}
+            for node in ast.walk(tree):
+                if isinstance(node, ast.Name) and isinstance(node.ctx, ast.Store):
+                    self.assertNotIn(node.id, taken, f"{path.name}:{node.lineno}")
+                elif isinstance(node, ast.arg):
+                    self.assertNotIn(node.arg, taken, f"{path.name}:{node.lineno}")
+
+    def test_attributes_are_no_methods(self):
+        methods, attributes = set(), set()
+        for _, node in self.nodes():
+            if isinstance(node, ast.ClassDef):
+                methods |= {part.name for part in node.body if isinstance(part, ast.FunctionDef)}
+            if isinstance(node, ast.Attribute) and isinstance(node.ctx, ast.Store):
+                attributes.add(node.attr)
+        self.assertEqual(methods & attributes, set())
+        self.assertEqual([name for name in attributes if owned_by_builtins(name)], [])
+
     def test_literals(self):
         for where, node in self.nodes():
             if isinstance(node, ast.Constant):

@@ -97,7 +97,8 @@ class StoppedDeedTest(RefusalCase):
                     stops = self.stop_at_each(blocks, kinds, deed, picks, states, told, seen)
                     self.assertGreater(stops, 0)
                 # Some stop leaves all, and some leaves nothing, of the deed.
-                self.assertEqual(sorted(seen), list(range(len(states))))
+                self.assertIn(0, seen)
+                self.assertIn(len(states) - 1, seen)
 
     def stop_at_each(self, blocks, kinds, deed, picks, states, told, seen):
         """Stop the deed at each write and settle in turn until it is done; how many stops."""
